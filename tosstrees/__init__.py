@@ -1,0 +1,1 @@
+"""Things drawn with told shares from fair tosses, by the fewest tosses."""
