@@ -5,7 +5,7 @@ import inspect
 import os
 import unittest
 
-from tosstrees import figures, shares
+from tosstrees import figures, machines, readers, shares, texts, trees
 
 README = os.path.join(os.path.dirname(os.path.dirname(os.path.abspath(__file__))), "README.md")
 SHARES = """
@@ -18,6 +18,29 @@ FIGURES = """
 >>> [figures((1, 3)), figures((3, 4)), number(((0,), (0, 1))), figure((1, 3), 4), cost((1, 3)), cost((3, 4)), rest((1, 3), 3)]
 [((0,), (0, 1)), ((0, 1, 1), (0,)), (1, 3), 1, (8, 9), (1, 1), (2, 3)]
 """
+TREES = """
+>>> from tosstrees.trees import drawn, is_least, knots, leaves, mean_of
+>>> thirds = ((1, 3), (1, 3), (1, 3))
+>>> [leaves(((1, 4), (3, 4))), leaves(thirds), mean_of(leaves(thirds)), knots(leaves(thirds), 1)]
+[(((0, 0), (0, 1), (1, 1)), ((0, 0),)), (((0, 0, 0),), ((0, 0, 0), (1, 1, 1))), (8, 3), 2]
+>>> [is_least((((0, 0), (0, 0), (2, 2)), ((0, 0),))), drawn((((0, 0), (0, 0), (2, 2)), ((0, 0),)))]
+[False, ((1, 2), (1, 2))]
+"""
+MACHINES = """
+>>> from tosstrees.machines import alike, ends, folded, leaves_of, machine_for, shares_of, walk
+>>> three = machine_for(thirds)
+>>> [three, shares_of(three), walk(three, (0, 0, 1, 1, 0, 1)), leaves_of(three, 4)]
+[(3, ('to', 0), ((('to', 1), ('to', 2)), (('is', 0), ('is', 1)), (('is', 2), ('to', 0)))), ((1, 3), (1, 3), (1, 3)), ((0, 1), ('to', 0)), (1, 1, 1)]
+"""
+TEXTS = """
+>>> from tosstrees.texts import show_figures, show_leaves, show_machine, show_table
+>>> [show_figures(((0,), (0, 1))), show_leaves(leaves(thirds)), show_machine(pair), show_table(((0, (2, 3), 1),))]
+['0(01)', '0 0 0 | 0 0 0; 1 1 1', 'machine 2 s0\\ni0 s0', '0 2/3 1']
+"""
+# What the document tells further up, in other sections.
+TOLD = {
+    "thirds": ((1, 3), (1, 3), (1, 3)), "leaves": trees.leaves,
+    "pair": (2, ("to", 0), ((("is", 0), ("to", 0)),))}
 INTERFACE = {
     shares: {
         "is_number": ["told"], "is_shares": ["told"], "shares": ["weights"],
@@ -26,20 +49,33 @@ INTERFACE = {
     figures: {
         "figures": ["number"], "number": ["told"], "figure": ["number", "k"], "cost": ["number"],
         "rest": ["number", "k"]},
+    trees: {
+        "is_leaves": ["told"], "leaves": ["shares"], "drawn": ["leaves"], "mean_of": ["leaves"],
+        "is_least": ["leaves"], "knots": ["leaves", "k"]},
+    machines: {
+        "is_machine": ["told"], "ends": ["machine"], "shares_of": ["machine"],
+        "walk": ["machine", "tosses"], "folded": ["machine"], "alike": ["one", "other"],
+        "machine_for": ["shares"], "leaves_of": ["machine", "k"]},
+    texts: {
+        "show_number": ["number"], "show_shares": ["shares"], "show_figures": ["told"],
+        "show_leaves": ["leaves"], "show_machine": ["machine"], "show_tosses": ["tosses"],
+        "show_table": ["table"]},
+    readers: {
+        "read_number": ["text"], "read_shares": ["text"], "read_figures": ["text"],
+        "read_leaves": ["text"], "read_machine": ["text"], "read_tosses": ["text"],
+        "read_table": ["text"]},
 }
 
 
 class Documented(unittest.TestCase):
-    def run_example(self, name, text):
-        example = doctest.DocTestParser().get_doctest(text, {}, name, None, 0)
-        self.assertEqual(len(example.examples), 2)
+    def run_example(self, text, many, told):
+        example = doctest.DocTestParser().get_doctest(text, dict(told), "document", None, 0)
+        self.assertEqual(len(example.examples), many)
         self.assertEqual(doctest.DocTestRunner().run(example).failed, 0)
 
-    def test_example_of_shares(self):
-        self.run_example("shares", SHARES)
-
-    def test_example_of_figures(self):
-        self.run_example("figures", FIGURES)
+    def test_examples_of_the_sections(self):
+        for text, many in ((SHARES, 2), (FIGURES, 2), (TREES, 4), (MACHINES, 3), (TEXTS, 2)):
+            self.run_example(text, many, TOLD)
 
     def test_examples_of_the_readme(self):
         found = doctest.testfile(README, module_relative=False, encoding="utf-8")

@@ -5,6 +5,7 @@ import math
 import unittest
 from fractions import Fraction
 
+from tests.sums import cost_of, division, value_of
 from tests.wrong import (
     NOT_FROM_0, NOT_NUMBERS, NUMBERS_OUTSIDE, Asking, as_pair, is_plain_number)
 from tosstrees.errors import InvalidFigures, InvalidNumber
@@ -24,42 +25,8 @@ MORE_THAN_1 = (
     ((1,), (0,) * 200 + (1,)), ((), (1,) + (0,) * 200))
 
 
-def division(told, many):
-    """The first figures of a number from 0 to 1, by long division."""
-    whole, left = divmod(told[0], told[1])
-    found = [whole]
-    for _ in range(many - 1):
-        sign, left = divmod(2 * left, told[1])
-        found.append(sign)
-    return found
-
-
 def rows(most):
     return [row for k in range(most + 1) for row in itertools.product((0, 1), repeat=k)]
-
-
-def value_of(ahead, again):
-    """The number of figures, by the sum of a geometric row."""
-    x = Fraction(1, 2 ** len(again))
-    return weighed(ahead, [1] * len(ahead), 0) + weighed(again, [1] * len(again), len(ahead)) / (1 - x)
-
-
-def cost_of(ahead, again):
-    """The cost, by the sums of the rows 1, x, x * x .. and of 0, x, 2 * x * x .."""
-    x = Fraction(1, 2 ** len(again))
-    places = range(len(ahead) + len(again))
-    first = weighed(ahead, places[:len(ahead)], 0)
-    once = weighed(again, places[len(ahead):], len(ahead))
-    later = weighed(again, [len(again)] * len(again), len(ahead))
-    return first + once / (1 - x) + later * x / (1 - x) ** 2
-
-
-def weighed(signs, weights, start):
-    """The sum of the signs times their weights, by 2 to the power of their places from a start."""
-    last = start + len(signs)
-    tops = [sign * weight << last - k
-            for k, (sign, weight) in enumerate(zip(signs, weights), start=start)]
-    return Fraction(sum(tops), 2 ** last)
 
 
 class FiguresCase(Asking, unittest.TestCase):

@@ -57,7 +57,8 @@ def walk(rows, many=LIMIT, *, back=False):
         found[row] = gcd(k, many) ** 2 // lcm(2, 3) % 7
     if len(found) == 0:
         raise Bad(rows)
-    first, *rest = [low(row) for row in rows]
+    _, last = rows[-1], max(len(row) for row, _ in found.items())
+    first, *rest = [low(row) for row in rows[:last]]
     return (*rest, first, sorted(seen, reverse=True), [a * b for a, b in product(rest, rest)])
 
 
@@ -68,7 +69,12 @@ def names(box):
         raise Bad(box) from error
     queue = []
     heappush(queue, value)
-    return ", ".join(f"{name}: {value:>4}" for name in NAMES) + "\\n"
+    text = f"{each(queue, low) or '-'} {'a' if value else 'b'}"
+    return text + ", ".join(f"{name}: {value:>4}" for name in NAMES) + "\\n"
+
+
+def each(xs, action):
+    return tuple([None if x is None else action(x) for x in xs])
 
 
 def both(xs):

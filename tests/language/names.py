@@ -14,6 +14,8 @@ BUILTINS = {
     "Exception", "ValueError", "TypeError", "KeyError", "IndexError", "LookupError",
     "ZeroDivisionError", "ArithmeticError", "OverflowError", "RuntimeError",
     "NotImplementedError", "AttributeError", "StopIteration", "NotImplemented"}
+# Showing a value at the prompt, as a doctest does, lets `_` stand among the builtins.
+OF_PYTHON = set(dir(builtins)) - {"_"}
 ONLY_IN_ANNOTATIONS = {"object", "float"}
 LIBRARY = {
     "heapq": {"heappush", "heappop", "heapify", "heapreplace", "heappushpop"},
@@ -75,7 +77,7 @@ def binding_faults(source):
             found.append(fault("L17", source, node, name))
         if not plain(name) or (kind == "class" and name.startswith("_")):
             found.append(fault("L12", source, node, name))
-        if name in dir(builtins) and (kind != "method" or name in BUILTINS):
+        if name in OF_PYTHON and (kind != "method" or name in BUILTINS):
             found.append(fault("L15", source, node, name))
         local = kind == "name" or (kind == "function" and not source.at_module_level(node))
         if local and name in shared:
