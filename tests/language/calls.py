@@ -157,6 +157,10 @@ def stored_set_faults(source, function):
         if isinstance(node, ast.Name) and node.id in names and isinstance(node.ctx, ast.Load):
             if not is_use_of_set(source, node):
                 found.append(fault("L24", source, node, "a stored set is used so"))
+    for inner in ast.walk(function):
+        if isinstance(inner, (ast.FunctionDef, ast.Lambda)) and inner is not function:
+            if any(isinstance(node, ast.Name) and node.id in names for node in ast.walk(inner)):
+                found.append(fault("L24", source, inner, "a stored set is named within"))
     for name in sorted(names):
         stores = [node for node in ast.walk(function) if isinstance(node, ast.Name)
                   and node.id == name and isinstance(node.ctx, ast.Store)]
@@ -208,9 +212,17 @@ def class_value_faults(source):
     return found
 
 
-def argument_faults(source):
-    """L22: calls of the file's own functions pass what they take."""
-    takes = {node.name: node.args for node in source.tree.body if isinstance(node, ast.FunctionDef)}
+def functions_of(source):
+    return {node.name: node.args for node in source.tree.body if isinstance(node, ast.FunctionDef)}
+
+
+def argument_faults(source, sources):
+    """L22: calls of the package's own functions pass what they take."""
+    takes = functions_of(source)
+    files = {one.name[:-3]: functions_of(one) for one in sources}
+    for node in source.imports():
+        theirs = files.get((node.module or "").rpartition(".")[2], {})
+        takes.update({one.name: theirs[one.name] for one in node.names if one.name in theirs})
     found = []
     for node in source.nodes(ast.Call):
         args = takes.get(call_name(node))
@@ -227,7 +239,7 @@ def argument_faults(source):
     return found
 
 
-def call_faults(source, own):
+def call_faults(source, own, sources):
     return (method_faults(source, own) + builtin_faults(source) + iteration_faults(source)
             + set_faults(source) + top_value_faults(source) + class_value_faults(source)
-            + argument_faults(source))
+            + argument_faults(source, sources))

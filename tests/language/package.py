@@ -21,7 +21,7 @@ def source_faults(package, sources):
         found += file_faults(source)
         found += name_faults(source, package, sources)
         found += code_faults(source)
-        found += call_faults(source, own)
+        found += call_faults(source, own, sources)
     return found
 
 
