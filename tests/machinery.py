@@ -24,6 +24,9 @@ ENDLESS_PAIR = (2, (TO, 1), (((TO, 1), (TO, 1)), ((TO, 0), (TO, 0)), ((IS, 0), (
 PERHAPS_ENDLESS = (2, (TO, 0), (((IS, 0), (TO, 1)), ((TO, 1), (TO, 1))))
 LATE_ENDLESS = (3, (TO, 0), (((IS, 0), (TO, 1)), ((IS, 2), (TO, 2)), ((TO, 3), (TO, 3)),
                              ((TO, 2), (TO, 2))))
+# Each state leads on to the next one or back to the first; only the last one leads out.
+LONG = (2, (TO, 0), tuple(((TO, k + 1), (TO, 0)) for k in range(179)) + (((IS, 0), (IS, 1)),))
+LINE = (40, (TO, 0), tuple(((TO, k + 1), (IS, k % 40)) for k in range(179)) + (((IS, 3), (TO, 179)),))
 
 ENDING = (PAIR, FIRST_THING, LAST_THING, THING_BESIDE_STATES, COIN, THREE, CROOKED, STATE_BESIDE,
           STATES_TWICE, SIX)

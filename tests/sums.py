@@ -13,6 +13,19 @@ def division(told, many):
     return found
 
 
+def figures_by_division(told):
+    """The figures of a number from 0 to 1, by long division up to what is left once more."""
+    signs, lefts = [], []
+    sign, left = divmod(told[0], told[1])
+    while left not in lefts:
+        signs.append(sign)
+        lefts.append(left)
+        sign, left = divmod(2 * left, told[1])
+    signs.append(sign)
+    start = lefts.index(left) + 1
+    return signs[:start], signs[start:]
+
+
 def value_of(ahead, again):
     """The number of figures, by the sum of a geometric row."""
     x = Fraction(1, 2 ** len(again))

@@ -5,7 +5,7 @@ import inspect
 import os
 import unittest
 
-from tosstrees import figures, machines, readers, shares, texts, trees
+from tosstrees import cells, figures, machines, means, readers, shares, tails, texts, trees
 
 README = os.path.join(os.path.dirname(os.path.dirname(os.path.abspath(__file__))), "README.md")
 SHARES = """
@@ -37,9 +37,30 @@ TEXTS = """
 >>> [show_figures(((0,), (0, 1))), show_leaves(leaves(thirds)), show_machine(pair), show_table(((0, (2, 3), 1),))]
 ['0(01)', '0 0 0 | 0 0 0; 1 1 1', 'machine 2 s0\\ni0 s0', '0 2/3 1']
 """
+MEANS = """
+>>> from tosstrees.means import least_mean, mean, over, spread
+>>> pair = (2, ("to", 0), ((("is", 0), ("to", 0)),))
+>>> [least_mean(thirds), least_mean(((1, 2), (1, 4), (1, 4))), mean(pair), spread(pair), over(pair)]
+[(8, 3), (3, 2), (2, 1), (2, 1), (2, 1)]
+"""
+TAILS = """
+>>> from tosstrees.tails import least_tail, surely, tail, within
+>>> [least_tail(thirds, 2), tail(three, 2), surely(((1, 8), (7, 8))), surely(thirds), within(thirds, (1, 100))]
+[(1, 4), (1, 4), 3, None, 8]
+"""
+CELLS = """
+>>> from tosstrees.cells import fewest_cells, groups, is_table, shares_of_table, table_for
+>>> [groups(thirds, 2), fewest_cells(((1, 2), (1, 4), (1, 4))), table_for(thirds, 2), groups(thirds, 1)]
+[((0, 1, 2),), 2, ((0, (2, 3), 1), (1, (1, 3), 2)), None]
+>>> [shares_of_table(3, ((0, (2, 3), 1), (1, (1, 3), 2))), is_table(2, ((0, (1, 1), 1),))]
+[((1, 3), (1, 3), (1, 3)), False]
+"""
+EXAMPLES = (
+    (SHARES, 2), (FIGURES, 2), (TREES, 4), (MACHINES, 3), (TEXTS, 2), (MEANS, 3), (TAILS, 2), (CELLS, 3))
 # What the document tells further up, in other sections.
+THIRDS = ((1, 3), (1, 3), (1, 3))
 TOLD = {
-    "thirds": ((1, 3), (1, 3), (1, 3)), "leaves": trees.leaves,
+    "thirds": THIRDS, "leaves": trees.leaves, "three": machines.machine_for(THIRDS),
     "pair": (2, ("to", 0), ((("is", 0), ("to", 0)),))}
 INTERFACE = {
     shares: {
@@ -56,6 +77,14 @@ INTERFACE = {
         "is_machine": ["told"], "ends": ["machine"], "shares_of": ["machine"],
         "walk": ["machine", "tosses"], "folded": ["machine"], "alike": ["one", "other"],
         "machine_for": ["shares"], "leaves_of": ["machine", "k"]},
+    means: {
+        "least_mean": ["shares"], "mean": ["machine"], "spread": ["machine"], "over": ["machine"]},
+    tails: {
+        "least_tail": ["shares", "k"], "tail": ["machine", "k"], "surely": ["shares"],
+        "within": ["shares", "far"]},
+    cells: {
+        "is_cell": ["n", "told"], "is_table": ["n", "told"], "shares_of_table": ["n", "table"],
+        "groups": ["shares", "m"], "fewest_cells": ["shares"], "table_for": ["shares", "m"]},
     texts: {
         "show_number": ["number"], "show_shares": ["shares"], "show_figures": ["told"],
         "show_leaves": ["leaves"], "show_machine": ["machine"], "show_tosses": ["tosses"],
@@ -74,7 +103,7 @@ class Documented(unittest.TestCase):
         self.assertEqual(doctest.DocTestRunner().run(example).failed, 0)
 
     def test_examples_of_the_sections(self):
-        for text, many in ((SHARES, 2), (FIGURES, 2), (TREES, 4), (MACHINES, 3), (TEXTS, 2)):
+        for text, many in EXAMPLES:
             self.run_example(text, many, TOLD)
 
     def test_examples_of_the_readme(self):

@@ -6,7 +6,7 @@ import unittest
 from fractions import Fraction
 
 from tests.machinery import (
-    COIN, CROOKED, ENDING, ENDLESS, ENDLESS_PAIR, FIRST_THING, IS, LAST_THING, LATE_ENDLESS,
+    COIN, CROOKED, ENDING, ENDLESS, ENDLESS_PAIR, FIRST_THING, IS, LAST_THING, LATE_ENDLESS, LINE, LONG,
     NO_BEGINNINGS, NO_COUNTS, NO_ROWS, NO_STATES, NO_TRIPLES, NOT_ENDING, NOT_MACHINES, PAIR,
     PERHAPS_ENDLESS, PRIME, SIX, STATE_BESIDE, STATES_TWICE, THING_BESIDE_STATES, THREE, TO,
     all_machines, never_out, scattered, shares_by_fractions, shares_by_prime, some_machine,
@@ -18,9 +18,6 @@ from tosstrees.machines import ends, is_machine, leaves_of, shares_of, walk
 FEW = all_machines(1, 1) + all_machines(2, 1) + all_machines(1, 2) + all_machines(2, 2)[::5]
 SOME = [some_machine(seed, n, states, share)
         for seed, (n, states, share) in enumerate(itertools.product((1, 3, 40), (5, 12), (15, 40, 70)))]
-# Each state leads on to the next one or back to the first; only the last one leads out.
-LONG = (2, (TO, 0), tuple(((TO, k + 1), (TO, 0)) for k in range(179)) + (((IS, 0), (IS, 1)),))
-LINE = (40, (TO, 0), tuple(((TO, k + 1), (IS, k % 40)) for k in range(179)) + (((IS, 3), (TO, 179)),))
 NOT_TOSSES = (
     None, True, False, 0, 1, "", "01", b"01", {}, {0: 1}, {0, 1}, range(2), object, 0.5, (2,),
     (-1,), [2], [0, 1, 2], (0, -1), (True,), [False], (0, True, 1), [1, False], ("0",), ["1"],

@@ -22,6 +22,7 @@ NOT_SHARES = (
 NOT_FROM_0 = (
     None, True, False, -1, -300, -10 ** 30, "", "0", "12", b"1", (), (0,), (1, 2), [], [1], {},
     0.0, 1.0, 0.5, object)
+NOT_FROM_1 = NOT_FROM_0 + (0,)
 
 
 def same(one, other):

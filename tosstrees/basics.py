@@ -2,6 +2,8 @@
 
 from math import gcd, lcm
 
+from tosstrees.errors import InvalidNumber
+
 
 def is_integer(told):
     """Tell whether a value is an integer; a bool is none here."""
@@ -11,6 +13,12 @@ def is_integer(told):
 def is_integer_from(told, least):
     """Tell whether a value is an integer that is not below another one."""
     return is_integer(told) and told >= least
+
+
+def check_count(told):
+    """Raise InvalidNumber if a value is no integer from 1 on."""
+    if not is_integer_from(told, 1):
+        raise InvalidNumber(told)
 
 
 def lowest(top, bottom):
@@ -24,10 +32,21 @@ def times(one, other):
     return lowest(one[0] * other[0], one[1] * other[1])
 
 
+def less(one, other):
+    """Return a number less another one."""
+    return lowest(one[0] * other[1] - other[0] * one[1], one[1] * other[1])
+
+
 def total(numbers):
     """Return the sum of a list or tuple of numbers."""
+    bottom = common_bottom(numbers)
+    top = sum(number[0] * (bottom // number[1]) for number in numbers)
+    return lowest(top, bottom)
+
+
+def common_bottom(numbers):
+    """Return the least integer above 0 that all bottoms of a list or tuple of numbers divide."""
     bottom = 1
     for number in numbers:
         bottom = lcm(bottom, number[1])
-    top = sum(number[0] * (bottom // number[1]) for number in numbers)
-    return lowest(top, bottom)
+    return bottom
