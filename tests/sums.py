@@ -1,4 +1,4 @@
-"""Long division in base two, and sums of rows that come again and again, by fractions."""
+"""Long division, and sums of rows that come again and again, by fractions."""
 
 from fractions import Fraction
 
@@ -13,38 +13,39 @@ def division(told, many):
     return found
 
 
-def figures_by_division(told):
+def figures_by_division(told, m=2):
     """The figures of a number from 0 to 1, by long division up to what is left once more."""
     signs, lefts = [], []
     sign, left = divmod(told[0], told[1])
     while left not in lefts:
         signs.append(sign)
         lefts.append(left)
-        sign, left = divmod(2 * left, told[1])
+        sign, left = divmod(m * left, told[1])
     signs.append(sign)
     start = lefts.index(left) + 1
     return signs[:start], signs[start:]
 
 
-def value_of(ahead, again):
+def value_of(ahead, again, m=2):
     """The number of figures, by the sum of a geometric row."""
-    x = Fraction(1, 2 ** len(again))
-    return weighed(ahead, [1] * len(ahead), 0) + weighed(again, [1] * len(again), len(ahead)) / (1 - x)
+    x = Fraction(1, m ** len(again))
+    first = weighed(ahead, [1] * len(ahead), 0, m)
+    return first + weighed(again, [1] * len(again), len(ahead), m) / (1 - x)
 
 
-def cost_of(ahead, again):
+def cost_of(ahead, again, m=2):
     """The cost, by the sums of the rows 1, x, x * x .. and of 0, x, 2 * x * x .."""
-    x = Fraction(1, 2 ** len(again))
+    x = Fraction(1, m ** len(again))
     places = range(len(ahead) + len(again))
-    first = weighed(ahead, places[:len(ahead)], 0)
-    once = weighed(again, places[len(ahead):], len(ahead))
-    later = weighed(again, [len(again)] * len(again), len(ahead))
+    first = weighed(ahead, places[:len(ahead)], 0, m)
+    once = weighed(again, places[len(ahead):], len(ahead), m)
+    later = weighed(again, [len(again)] * len(again), len(ahead), m)
     return first + once / (1 - x) + later * x / (1 - x) ** 2
 
 
-def weighed(signs, weights, start):
-    """The sum of the signs times their weights, by 2 to the power of their places from a start."""
+def weighed(signs, weights, start, m):
+    """The sum of the signs times their weights, by m to the power of their places from a start."""
     last = start + len(signs)
-    tops = [sign * weight << last - k
+    tops = [sign * weight * m ** (last - k)
             for k, (sign, weight) in enumerate(zip(signs, weights), start=start)]
-    return Fraction(sum(tops), 2 ** last)
+    return Fraction(sum(tops), m ** last)

@@ -5,7 +5,8 @@ import inspect
 import os
 import unittest
 
-from tosstrees import cells, figures, machines, means, readers, shares, tails, texts, trees
+from tosstrees import (
+    cells, consoles, crooked, dice, errors, figures, machines, means, readers, rows, shares, tails, texts, trees)
 
 README = os.path.join(os.path.dirname(os.path.dirname(os.path.abspath(__file__))), "README.md")
 SHARES = """
@@ -55,8 +56,26 @@ CELLS = """
 >>> [shares_of_table(3, ((0, (2, 3), 1), (1, (1, 3), 2))), is_table(2, ((0, (1, 1), 1),))]
 [((1, 3), (1, 3), (1, 3)), False]
 """
+DICE = """
+>>> from tosstrees.dice import base_figures, die_mean, die_surely, fewest_dice, is_bounded, row_draw
+>>> [is_bounded(thirds, (4, 6)), fewest_dice(((1, 12), (11, 12)), (2, 6)), row_draw(((1, 12), (11, 12)), (2, 6)), base_figures((1, 2), 3)]
+[True, (2, 6), (1, 11), ((0,), (1,))]
+>>> [die_mean(thirds, 3), die_mean(((1, 2), (1, 2)), 3), die_surely(thirds, 6)]
+[(1, 1), (3, 2), 1]
+"""
+CROOKED = """
+>>> from tosstrees.crooked import best, is_fair, mean_out, most, put_out
+>>> [best(2), put_out((0, 1, 1)), most(4), mean_out(2, (1, 2)), is_fair(2, ((), (0,), (), (1,)))]
+[((), (0,), (1,), ()), (0,), (0, 8, 10, 8, 0), (1, 2), False]
+"""
+ROWS = """
+>>> from tosstrees.rows import even_mean, lot_mean, many, saved, shuffle_mean
+>>> [many(((1, 2), (1, 2)), 2), even_mean(3), saved(((1, 4), (3, 4)), 1), shuffle_mean(2), lot_mean(4, 2)]
+[((1, 4), (1, 4), (1, 4), (1, 4)), (8, 3), (0, 1), (1, 1), (11, 3)]
+"""
 EXAMPLES = (
-    (SHARES, 2), (FIGURES, 2), (TREES, 4), (MACHINES, 3), (TEXTS, 2), (MEANS, 3), (TAILS, 2), (CELLS, 3))
+    (SHARES, 2), (FIGURES, 2), (TREES, 4), (MACHINES, 3), (TEXTS, 2), (MEANS, 3), (TAILS, 2), (CELLS, 3),
+    (DICE, 3), (CROOKED, 2), (ROWS, 2))
 # What the document tells further up, in other sections.
 THIRDS = ((1, 3), (1, 3), (1, 3))
 TOLD = {
@@ -85,6 +104,16 @@ INTERFACE = {
     cells: {
         "is_cell": ["n", "told"], "is_table": ["n", "told"], "shares_of_table": ["n", "table"],
         "groups": ["shares", "m"], "fewest_cells": ["shares"], "table_for": ["shares", "m"]},
+    dice: {
+        "is_dice": ["told"], "is_bounded": ["shares", "dice"], "fewest_dice": ["shares", "dice"],
+        "row_draw": ["shares", "row"], "base_figures": ["number", "m"], "die_mean": ["shares", "m"],
+        "die_surely": ["shares", "m"]},
+    crooked: {
+        "is_reader": ["n", "told"], "is_fair": ["n", "told"], "best": ["n"], "put_out": ["row"],
+        "most": ["n"], "mean_out": ["n", "share"]},
+    rows: {
+        "many": ["shares", "k"], "saved": ["shares", "k"], "even_mean": ["n"], "shuffle_mean": ["n"],
+        "lot_mean": ["n", "k"]},
     texts: {
         "show_number": ["number"], "show_shares": ["shares"], "show_figures": ["told"],
         "show_leaves": ["leaves"], "show_machine": ["machine"], "show_tosses": ["tosses"],
@@ -94,6 +123,13 @@ INTERFACE = {
         "read_leaves": ["text"], "read_machine": ["text"], "read_tosses": ["text"],
         "read_table": ["text"]},
 }
+METHODS = {
+    "keep": ["self", "name", "machine"], "drop": ["self", "name"], "undo": ["self"],
+    "machine": ["self", "name"], "names": ["self"], "order": ["self", "text"]}
+ERRORS = (
+    "InvalidNumber", "InvalidShares", "InvalidFigures", "InvalidLeaves", "InvalidMachine", "InvalidRow",
+    "InvalidThing", "InvalidPair", "NeverEnds", "NotDrawn", "InvalidDice", "InvalidTable", "InvalidReader",
+    "NoTable", "InvalidName", "UnknownName", "NothingToUndo", "Unreadable", "Unorderly")
 
 
 class Documented(unittest.TestCase):
@@ -119,12 +155,27 @@ class Documented(unittest.TestCase):
     def test_names_arguments_and_files(self):
         for module, calls in INTERFACE.items():
             for name, arguments in calls.items():
-                call = getattr(module, name)
-                told = inspect.signature(call).parameters.values()
-                self.assertEqual([one.name for one in told], arguments, name)
-                self.assertEqual({one.kind for one in told}, {inspect.Parameter.POSITIONAL_OR_KEYWORD})
-                self.assertEqual({one.default for one in told}, {inspect.Parameter.empty})
-                self.assertEqual(call.__module__, module.__name__, name)
+                self.takes(getattr(module, name), arguments)
+                self.assertEqual(getattr(module, name).__module__, module.__name__, name)
+
+    def takes(self, call, arguments):
+        told = inspect.signature(call).parameters.values()
+        self.assertEqual([one.name for one in told], arguments, call)
+        self.assertEqual({one.kind for one in told}, {inspect.Parameter.POSITIONAL_OR_KEYWORD})
+        self.assertEqual({one.default for one in told}, {inspect.Parameter.empty})
+
+    def test_methods_that_the_class_itself_defines(self):
+        self.assertEqual(consoles.Console.__module__, consoles.__name__)
+        self.assertEqual(list(inspect.signature(consoles.Console).parameters), [])
+        for name, arguments in METHODS.items():
+            self.takes(vars(consoles.Console)[name], arguments)
+
+    def test_errors(self):
+        self.assertEqual(errors.TossError.__bases__, (ValueError,))
+        for name in ERRORS:
+            kind = getattr(errors, name)
+            self.assertEqual((kind.__bases__, kind.__module__), ((errors.TossError,), errors.__name__))
+            self.assertEqual([kind(7).value, kind(value="x").value], [7, "x"])
 
 
 if __name__ == "__main__":

@@ -45,6 +45,14 @@ class Box:
     def put(self, row):
         self.rows.append(row)
 
+    def put_all(self, rows, back=False):
+        for row in rows:
+            self.put(row)
+        return self.put_two(*rows) if back else self.rows
+
+    def put_two(self, one, other):
+        self.put_all([one, other])
+
 
 def walk(rows, many=LIMIT, *, back=False):
     """Goes over rows."""
@@ -130,6 +138,15 @@ WRONG = (
     ("L22", "from pack.other import low\n\n\ndef f(a):\n    return low(a, a)\n"),
     ("L22", "from pack.other import low\n\n\ndef f(a):\n    return low(m=a)\n"),
     ("L24", "def f(a):\n    b = set(a)\n    return lambda x: x in b\n"),
+    ("L18", "class A:\n    def b(self):\n        return 1\n\n    def b(self):\n        return 2\n"),
+    ("L18", "class A:\n    def __init__(self):\n        self.b = 1\n\n    def b(self):\n        return 2\n"),
+    ("L18", "class A:\n    def b(self):\n        return 1\n\n\nclass C(A):\n    def d(self):\n        self.b = 1\n"),
+    ("L18", "def f(a):\n    return a.missing\n"),
+    ("L22", "class A:\n    def b(self, c):\n        return self.b()\n"),
+    ("L22", "class A:\n    def b(self, c):\n        return self.b(c, c)\n"),
+    ("L22", "class A:\n    def b(self, c):\n        return self.b(d=c)\n"),
+    ("L22", "class A:\n    def b(self, c):\n        return self.d(c)\n"),
+    ("L7", "def f(a):\n    return max(*a[1:])\n"), ("L7", "def f(a):\n    return max(*sorted(a))\n"),
     ("L25", "def f(a):\n    return a.popitem()\n"), ("L25", "def f(a):\n    return a.split(sep=',')\n"),
     ("L26", "def f(a):\n    a.items = 1\n"), ("L27", "def f(a, b):\n    return a ** b\n"),
     ("L27", "def f(a):\n    return a ** 65\n"), ("L27", "A = 'a % sign'\n"), ("L27", "A = 'a\\r'\n"),

@@ -23,6 +23,7 @@ NOT_FROM_0 = (
     None, True, False, -1, -300, -10 ** 30, "", "0", "12", b"1", (), (0,), (1, 2), [], [1], {},
     0.0, 1.0, 0.5, object)
 NOT_FROM_1 = NOT_FROM_0 + (0,)
+NOT_FROM_2 = NOT_FROM_1 + (1,)
 
 
 def same(one, other):

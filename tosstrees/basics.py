@@ -21,6 +21,14 @@ def check_count(told):
         raise InvalidNumber(told)
 
 
+def power(base, exponent):
+    """Return an integer to the power of an integer from 0 on."""
+    found = 1
+    for _ in range(exponent):
+        found = found * base
+    return found
+
+
 def lowest(top, bottom):
     """Return a top by a bottom above 0 as a fraction in lowest terms."""
     common = gcd(top, bottom)

@@ -3,6 +3,7 @@
 import ast
 
 from tests.language.calls import call_faults
+from tests.language.classes import object_faults
 from tests.language.code import code_faults
 from tests.language.files import file_faults, folder_faults
 from tests.language.names import circle_faults, name_faults
@@ -22,6 +23,7 @@ def source_faults(package, sources):
         found += name_faults(source, package, sources)
         found += code_faults(source)
         found += call_faults(source, own, sources)
+        found += object_faults(source, sources)
     return found
 
 
